@@ -1,0 +1,1 @@
+"""Many writers on one table: sessions that are taken whole, or not at all."""
