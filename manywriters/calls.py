@@ -27,8 +27,14 @@ LAYOUT = (
 )
 
 
+# The calls of which the first whole number is a session's.
+IN_SESSION = (2, 3, 4, 5, 6, 7, 8, 9, 10, 11)
+
+
+# The place is where the call begins in the list: no other call of it has this one.
 class Call:
-    def __init__(self, number, numbers, text):
+    def __init__(self, place, number, numbers, text):
+        self.place = place
         self.number = number
         self.numbers = numbers
         self.text = text
@@ -41,11 +47,11 @@ def split_calls(written):
         number = written[place]
         layout = LAYOUT[number]
         numbers_end = place + 1 + layout[0]
-        numbers = written[place + 1:numbers_end]
-        place = numbers_end
+        call_end = numbers_end
         text = []
         if layout[1]:
-            place = numbers_end + 1 + written[numbers_end]
-            text = written[numbers_end + 1:place]
-        found.append(Call(number, numbers, text))
+            call_end = numbers_end + 1 + written[numbers_end]
+            text = written[numbers_end + 1:call_end]
+        found.append(Call(place, number, written[place + 1:numbers_end], text))
+        place = call_end
     return found

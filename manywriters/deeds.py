@@ -5,9 +5,11 @@ from manywriters.conditions import holds, read_condition
 from manywriters.rows import read_row
 
 
-# The call tells the kind of deed. What the kind has no use for is None.
+# The call's number tells the kind of deed, its place tells this deed from all others.
+# What the kind has no use for is None.
 class Deed:
-    def __init__(self, call, number, row, condition):
+    def __init__(self, place, call, number, row, condition):
+        self.place = place
         self.call = call
         self.number = number
         self.row = row
@@ -16,12 +18,12 @@ class Deed:
 
 def read_deed(schema, call, next_row):
     if call.number == PUT:
-        return Deed(PUT, next_row, read_row(schema, call.text), None)
+        return Deed(call.place, PUT, next_row, read_row(schema, call.text), None)
     if call.number == ASK:
-        return Deed(ASK, None, None, read_condition(schema, call.text))
+        return Deed(call.place, ASK, None, None, read_condition(schema, call.text))
     if call.number == REPLACE:
-        return Deed(REPLACE, call.numbers[1], read_row(schema, call.text), None)
-    return Deed(call.number, call.numbers[1], None, None)
+        return Deed(call.place, REPLACE, call.numbers[1], read_row(schema, call.text), None)
+    return Deed(call.place, call.number, call.numbers[1], None, None)
 
 
 # A reply is kept as the numbers that are answered: two replies to one deed
@@ -30,7 +32,7 @@ def reply_of(rows, deed):
     if deed.call == PUT:
         return [deed.number]
     if deed.call == ASK:
-        return reply_to_ask(rows, deed.condition)
+        return reply_to_ask(rows, deed)
     if deed.number not in rows:
         return [0]
     if deed.call == LOOK:
@@ -39,9 +41,17 @@ def reply_of(rows, deed):
     return [1]
 
 
-def reply_to_ask(rows, condition):
-    numbers = [number for number in sorted(rows) if holds(rows[number], condition)]
+def reply_to_ask(rows, deed):
+    numbers = [number for number in sorted(rows) if holds_asked(rows[number], deed)]
     return [len(numbers)] + numbers
+
+
+# Deeds are done over and over, mostly to the same rows, and to go through a long row takes its time:
+# so each row keeps what it was found to hold.
+def holds_asked(row, deed):
+    if deed.place not in row.held:
+        row.held[deed.place] = holds(row, deed.condition)
+    return row.held[deed.place]
 
 
 # Rows are copied before a change, as others still have the rows from before it.

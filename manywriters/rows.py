@@ -10,10 +10,12 @@ MOST_ROW_BYTES = 4000
 
 # A group's value is a list that has for each field the list of its occurrences.
 # A choice's is no other: all its lists are empty but the taken field's.
+# By the places of asks that were done to the row, held has whether it holds their conditions.
 class Row:
     def __init__(self, text, record):
         self.text = text
         self.record = record
+        self.held = {}
 
 
 def read_row(schema, text):

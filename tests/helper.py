@@ -5,6 +5,9 @@ from manywriters.sessions import answers
 LEAST = -10 ** 18
 GREATEST = 10 ** 18
 
+LOOSE = 0
+STRICT = 1
+
 EXAMPLE_SCHEMA = (
     '{1id!i32;2name?t20;3tags*t8;4pos?{1x!i16=0;2y!i16};5shape!<1dot!b;2line!{1len!i8}>;'
     '6attr%{1key!t4;2val?i32}}'
@@ -55,6 +58,34 @@ def undo(session, deeds):
     return [7, session, deeds]
 
 
+def why(session):
+    return [8, session]
+
+
+def again(session):
+    return [9, session]
+
+
+def commit(session, mode):
+    return [10, session, mode]
+
+
+def close(session):
+    return [11, session]
+
+
+def rows():
+    return [12]
+
+
+def row(number):
+    return [13, number]
+
+
+def then(commits):
+    return [14, commits]
+
+
 def joined(calls):
     line = []
     for call in calls:
@@ -85,6 +116,19 @@ def run(*calls):
 def seen(text):
     """What look answers of a row with this text."""
     return with_count(text)
+
+
+def table_with(*texts):
+    """Calls that make a table of which the one commit left rows with these texts."""
+    return [schema("{1a!i8}"), begin()] + [put(0, text) for text in texts] + [commit(0, STRICT)]
+
+
+def answered_behind(start, *calls):
+    """The answers to the calls alone that come behind these first ones, none of which may be refused."""
+    found = run(*start, *calls)
+    if any(answer[0] < 0 for answer in found[:len(start)]):
+        raise AssertionError("one of the test's own first calls was refused")
+    return found[len(start):]
 
 
 def schema_taken(text):

@@ -7,6 +7,7 @@ import random
 import re
 import unittest
 
+from tests import helper
 from tests.helper import ask, begin, drop, in_bytes, look, put, replace, run, schema, undo
 
 ESCAPED = r"\\(?:[01][0-9a-f]|22|5c|7f|[89a-f][0-9a-f])"
@@ -350,132 +351,307 @@ class Maker:
 
 
 class Model:
-    """What a line is answered, with each view made from the beginning."""
+    """What a line is answered, with each view made from the beginning, of texts alone."""
 
-    def __init__(self):
-        self.record = None
+    def __init__(self, record=None):
+        self.record = record
+        self.commits = [{}]
         self.sessions = {}
         self.next_row = 0
+        self.judged = {}
 
     def schema(self, text):
         judged = schema_or_none(text)
         if judged is None:
             return [-1]
-        self.__init__()
-        self.record = judged
+        self.__init__(judged)
         return [0]
 
     def begin(self):
         if len(self.sessions) == 8:
             return [-5]
         number = min(set(range(8)) - set(self.sessions))
-        self.sessions[number] = []
+        self.sessions[number] = {"base": len(self.commits) - 1, "deeds": [], "replies": []}
         return [number]
 
-    def view(self, session):
-        rows = {}
-        for name, number, text in self.sessions[session]:
-            if name == "put" or (name == "replace" and number in rows):
+    def row(self, text):
+        if text not in self.judged:
+            self.judged[text] = row_or_none(self.record, text)
+        return self.judged[text]
+
+    def done(self, deeds, rows):
+        """The replies to these deeds, and what they make of the rows."""
+        rows = dict(rows)
+        replies = []
+        for name, number, text in deeds:
+            there = number in rows
+            if name == "put":
+                replies.append("done")
+            elif name == "look":
+                replies.append(rows.get(number, "no"))
+            elif name == "ask":
+                holds = condition_or_none(self.record, text)
+                replies.append([other for other in sorted(rows) if holds(self.row(rows[other]))])
+            else:
+                replies.append("done" if there else "no")
+            if name == "put" or name == "replace" and there:
                 rows[number] = text
-            if name == "drop" and number in rows:
-                rows = {other: rows[other] for other in rows if other != number}
-        return rows
+            if name == "drop" and there:
+                rows.pop(number)
+        return replies, rows
 
     def deed(self, name, session, number, text):
         if session not in self.sessions:
             return [-3]
-        if name in ("put", "replace") and row_or_none(self.record, text) is None:
+        if name in ("put", "replace") and self.row(text) is None:
             return [-1]
         if name == "ask" and condition_or_none(self.record, text) is None:
             return [-1]
-        if len(self.sessions[session]) == 40:
+        opened = self.sessions[session]
+        if len(opened["deeds"]) == 40:
             return [-6]
-        rows = self.view(session)
         if name == "put":
             number = self.next_row
             self.next_row += 1
-        self.sessions[session].append((name, number, text))
-        return self.reply(name, number, text, rows)
-
-    def reply(self, name, number, text, rows):
+        opened["deeds"].append((name, number, text))
+        reply = self.done(opened["deeds"], self.commits[opened["base"]])[0][-1]
+        opened["replies"].append(reply)
         if name == "put":
             return [number]
-        if name == "ask":
-            holds = condition_or_none(self.record, text)
-            found = sorted(other for other in rows if holds(row_or_none(self.record, rows[other])))
-            return [len(found)] + found
-        if number not in rows:
-            return [0]
         if name == "look":
-            return [len(rows[number])] + in_bytes(rows[number])
-        return [1]
+            return [0] if reply == "no" else [len(reply)] + in_bytes(reply)
+        if name == "ask":
+            return [len(reply)] + reply
+        return [["no", "done"].index(reply)]
 
     def undo(self, session, deeds):
         if session not in self.sessions:
             return [-3]
-        if not 0 <= deeds <= len(self.sessions[session]):
+        opened = self.sessions[session]
+        if not 0 <= deeds <= len(opened["deeds"]):
             return [-4]
-        self.sessions[session] = self.sessions[session][:deeds]
+        opened["deeds"] = opened["deeds"][:deeds]
+        opened["replies"] = opened["replies"][:deeds]
         return [deeds]
+
+    def unlike(self, opened):
+        """The places of the deeds that would have another reply now."""
+        now = self.done(opened["deeds"], self.commits[-1])[0]
+        return [place for place in range(len(now)) if now[place] != opened["replies"][place]]
+
+    def written(self, opened):
+        pairs = zip(opened["deeds"], opened["replies"])
+        return {deed[1] for deed, reply in pairs if deed[0] in ("put", "replace", "drop") and reply == "done"}
+
+    def is_loose(self, opened):
+        base = self.commits[opened["base"]]
+        return all(base.get(number) == self.commits[-1].get(number) for number in self.written(opened))
+
+    def why(self, session):
+        if session not in self.sessions:
+            return [-3]
+        opened = self.sessions[session]
+        places = self.unlike(opened) + [len(opened["deeds"])]
+        return [int(len(places) == 1), int(self.is_loose(opened)), places[0]]
+
+    def again(self, session):
+        if session not in self.sessions:
+            return [-3]
+        opened = self.sessions[session]
+        count = len(self.unlike(opened))
+        opened["replies"] = self.done(opened["deeds"], self.commits[-1])[0]
+        opened["base"] = len(self.commits) - 1
+        return [count]
+
+    def commit(self, session, mode):
+        if session not in self.sessions:
+            return [-3]
+        if mode not in (0, 1):
+            return [-4]
+        opened = self.sessions[session]
+        if not (self.is_loose(opened) if mode == 0 else self.unlike(opened) == []):
+            return [-10]
+        if mode == 1:
+            left = self.done(opened["deeds"], self.commits[-1])[1]
+        else:
+            view = self.done(opened["deeds"], self.commits[opened["base"]])[1]
+            written = self.written(opened)
+            left = {number: text for number, text in self.commits[-1].items() if number not in written}
+            left.update({number: text for number, text in view.items() if number in written})
+        if len(left) > 60 or len(self.commits) == 61:
+            return [-7]
+        self.commits.append(left)
+        self.sessions.pop(session)
+        return [len(self.commits) - 1]
+
+    def close(self, session):
+        return [-3] if self.sessions.pop(session, None) is None else [0]
+
+    def rows(self):
+        return self.then(len(self.commits) - 1)
+
+    def committed_row(self, number):
+        text = self.commits[-1].get(number)
+        return [-4] if text is None else [len(text)] + in_bytes(text)
+
+    def then(self, commits):
+        if not 0 <= commits < len(self.commits):
+            return [-4]
+        return [len(self.commits[commits])] + sorted(self.commits[commits])
+
+
+class Line:
+    """Calls, and what the model answers to each."""
+
+    def __init__(self, seed):
+        self.maker = Maker(seed)
+        self.random = self.maker.random
+        self.model = Model()
+        self.calls = []
+        self.expected = []
+
+    def add(self, call, answer):
+        self.calls.append(call)
+        self.expected.append(answer)
+
+    def add_schema(self, text):
+        self.add(schema(text), self.model.schema(text))
+
+    def add_begin(self):
+        self.add(begin(), self.model.begin())
+
+    def add_deed(self, session, row, condition):
+        number = self.random.randrange(-1, self.model.next_row + 1)
+        name = self.random.choice(["put", "put", "ask", "ask", "look", "replace", "drop"])
+        call = {
+            "put": put(session, row), "ask": ask(session, condition), "look": look(session, number),
+            "replace": replace(session, number, row), "drop": drop(session, number),
+        }[name]
+        text = condition if name == "ask" else row if name in ("put", "replace") else None
+        self.add(call, self.model.deed(name, session, None if name in ("put", "ask") else number, text))
+
+    def add_undo(self, session):
+        done = len(self.model.sessions.get(session, {"deeds": []})["deeds"])
+        deeds = self.random.choice([-1, 0, done, done + 1, max(0, done - 1), done // 2])
+        self.add(undo(session, deeds), self.model.undo(session, deeds))
+
+    def add_end(self, session):
+        chance = self.random.randrange(10)
+        if chance < 3:
+            self.add(helper.commit(session, 0), self.model.commit(session, 0))
+        elif chance < 7:
+            self.add(helper.commit(session, 1), self.model.commit(session, 1))
+        elif chance < 8:
+            mode = self.random.choice([-1, 2])
+            self.add(helper.commit(session, mode), self.model.commit(session, mode))
+        else:
+            self.add(helper.close(session), self.model.close(session))
+
+    def add_question(self, session):
+        chance = self.random.randrange(10)
+        number = self.random.randrange(-1, self.model.next_row + 1)
+        commits = self.random.randrange(-1, len(self.model.commits) + 1)
+        if chance < 4:
+            self.add(helper.why(session), self.model.why(session))
+        elif chance < 6:
+            self.add(helper.again(session), self.model.again(session))
+        elif chance < 7:
+            self.add(helper.rows(), self.model.rows())
+        elif chance < 8:
+            self.add(helper.row(number), self.model.committed_row(number))
+        else:
+            self.add(helper.then(commits), self.model.then(commits))
+
+    def add_some(self, session, row, condition):
+        chance = self.random.randrange(20)
+        if chance < 10:
+            self.add_deed(session, row, condition)
+        elif chance < 12:
+            self.add_begin()
+        elif chance < 13:
+            self.add_undo(session)
+        elif chance < 15:
+            self.add_end(session)
+        else:
+            self.add_question(session)
 
 
 def made_line(seed):
-    """Calls, and what the model answers to each."""
-    maker = Maker(seed)
-    model = Model()
-    calls = []
-    expected = []
-
-    def add(call, answer):
-        calls.append(call)
-        expected.append(answer)
-
+    """Any schema, with rows and conditions that may be spoilt."""
+    line = Line(seed)
+    maker = line.maker
     text = maker.group(1, "{", False)
     while schema_or_none(text) is None:
         text = maker.group(1, "{", False)
-    add(schema(text), model.schema(text))
-    add(begin(), model.begin())
-    for count in range(60):
+    line.add_schema(text)
+    line.add_begin()
+    for count in range(80):
         session = maker.random.choice([0, 0, 0, 0, 0, 1, 1, 2, -1])
-        number = maker.random.randrange(-1, model.next_row + 1)
-        row = maker.perhaps_spoilt(maker.row(model.record))
-        condition = maker.perhaps_spoilt(maker.condition(model.record, 0))
-        chance = maker.random.randrange(20)
-        if chance < 6:
-            add(put(session, row), model.deed("put", session, None, row))
-        elif chance < 11:
-            add(ask(session, condition), model.deed("ask", session, None, condition))
-        elif chance < 13:
-            add(look(session, number), model.deed("look", session, number, None))
-        elif chance < 15:
-            add(replace(session, number, row), model.deed("replace", session, number, row))
-        elif chance < 17:
-            add(drop(session, number), model.deed("drop", session, number, None))
-        elif chance < 18:
-            deeds = maker.random.randrange(-1, 8) + max(0, len(model.sessions.get(session, [])) - 5)
-            add(undo(session, deeds), model.undo(session, deeds))
-        elif chance < 19:
-            add(begin(), model.begin())
-        elif maker.random.random() < 0.3:
-            other = maker.spoilt(text)
-            add(schema(other), model.schema(other))
-    return calls, expected
+        row = maker.perhaps_spoilt(maker.row(line.model.record))
+        condition = maker.perhaps_spoilt(maker.condition(line.model.record, 0))
+        line.add_some(session, row, condition)
+        if maker.random.random() < 0.01:
+            line.add_schema(maker.spoilt(text))
+    return line.calls, line.expected
+
+
+def crowded_line(seed):
+    """A small schema with few unlike rows, and many sessions that write the same ones."""
+    line = Line(f"crowded {seed}")
+    line.add_schema("{1a!i3}")
+    # Half of the lines put so many rows first that there's little room for others.
+    if line.random.random() < 0.5:
+        for session in range(2):
+            line.add_begin()
+            for count in range(line.random.randrange(26, 34)):
+                line.add(put(0, "{a:0}"), line.model.deed("put", 0, None, "{a:0}"))
+            line.add(helper.commit(0, 1), line.model.commit(0, 1))
+    while len(line.calls) < 400:
+        session = line.random.randrange(4)
+        row = "{a:" + str(line.random.randrange(-1, 3)) + "}"
+        condition = "(a" + line.random.choice("<>=") + str(line.random.randrange(-1, 3)) + ")"
+        line.add_some(session, row, condition)
+    return line.calls, line.expected
 
 
 class Generated(unittest.TestCase):
-    def test_lines(self):
-        answered = {}
-        for seed in range(150):
-            calls, expected = made_line(seed)
+    def compare(self, made, seeds):
+        """The answers that were seen, each as its call's number and what is told of it."""
+        seen = set()
+        for seed in range(seeds):
+            calls, expected = made(seed)
             found = run(*calls)
             for place, call in enumerate(calls):
-                answered[(call[0], expected[place][0] < 0)] = True
-                if found[place] != expected[place]:
-                    self.fail(f"seed {seed}, call {place}, {call}: {found[place]}, not {expected[place]}")
+                answer = expected[place]
+                if found[place] != answer:
+                    self.fail(f"seed {seed}, call {place}, {call}: {found[place]}, not {answer}")
+                seen.add((call[0], min(answer[0], 0)))
+                if call[0] == 8 and answer[0] >= 0:
+                    seen.add(("why", answer[0], answer[1]))
+                if call[0] == 10:
+                    seen.add(("commit", call[2], min(answer[0], 0)))
+                if call[0] == 9 and answer[0] > 0:
+                    seen.add("again with others")
+        return seen
+
+    def test_lines(self):
+        seen = self.compare(made_line, 150)
         # Each call was both answered and refused, so that the comparison is no empty one.
-        for number in (0, 2, 3, 4, 5, 6, 7):
-            self.assertIn((number, False), answered)
-            self.assertIn((number, True), answered)
+        for call in range(15):
+            refusals = {0: [-1], 2: [-1, -3], 4: [-1, -3], 5: [-1, -3], 7: [-3, -4], 10: [-3, -4, -10], 13: [-4], 14: [-4]}
+            for answer in [0] + refusals.get(call, [-3] if call not in (1, 12) else []):
+                self.assertIn((call, answer), seen)
+
+    def test_crowded_lines(self):
+        seen = self.compare(crowded_line, 60)
+        for mode in (0, 1):
+            for answer in (0, -3, -7, -10):
+                self.assertIn(("commit", mode, answer), seen)
+            for other in (0, 1):
+                self.assertIn(("why", mode, other), seen)
+        self.assertIn("again with others", seen)
+        self.assertIn((2, -6), seen)
+        self.assertIn((1, -5), seen)
 
     def test_schemas(self):
         judged = {True: 0, False: 0}

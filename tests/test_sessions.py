@@ -1,9 +1,10 @@
-"""Points 2 to 4, 6, 8 and 9: sessions, their deeds, and which refusal comes first."""
+"""Points 1 to 4, 6, 8 and 9: sessions, their deeds, and which refusal comes first."""
 
 import unittest
 
 from tests.helper import (
-    EXAMPLE_ROW, EXAMPLE_SCHEMA, GREATEST, LEAST, ask, begin, drop, look, put, replace, run, schema, seen, undo,
+    EXAMPLE_ROW, EXAMPLE_SCHEMA, GREATEST, LEAST, LOOSE, STRICT, again, answered_behind, ask, begin, close, commit, drop,
+    look, put, replace, row, rows, run, schema, seen, table_with, then, undo, why,
 )
 
 START = [schema("{1a!i8}"), begin()]
@@ -20,13 +21,22 @@ def each_deed(session):
     return [put(session, "{a:1}"), look(session, 0), ask(session, "T"), replace(session, 0, "{a:2}"), drop(session, 0)]
 
 
+def each_in_session(session):
+    """Each call that names a session, in the order of the calls' numbers; the last one closes it."""
+    others = [undo(session, 0), why(session), again(session), commit(session, LOOSE), commit(session, STRICT), close(session)]
+    return each_deed(session) + others
+
+
 class NoSchema(unittest.TestCase):
     def test_each_call_is_refused(self):
-        calls = [begin()] + each_deed(0) + [undo(0, 0)]
+        calls = [begin()] + each_in_session(0) + [rows(), row(0), then(0)]
         self.assertEqual(run(*calls), [[-2]] * len(calls))
 
     def test_looked_at_first(self):
-        calls = [put(-1, "x"), put(0, ""), ask(9, "x"), replace(0, -1, "x"), look(LEAST, 0), drop(GREATEST, 0), undo(9, -1)]
+        calls = [
+            put(-1, "x"), put(0, ""), ask(9, "x"), replace(0, -1, "x"), look(LEAST, 0), drop(GREATEST, 0), undo(9, -1),
+            why(-1), again(8), commit(0, 2), commit(9, LEAST), close(GREATEST), row(-1), then(-1), then(GREATEST),
+        ]
         self.assertEqual(run(*calls), [[-2]] * len(calls))
 
     def test_a_refused_schema_is_none(self):
@@ -36,8 +46,6 @@ class NoSchema(unittest.TestCase):
         found = run(begin(), put(0, "{a:1}"), schema("{1a!i8}"), look(0, 0), begin(), put(0, "{a:1}"))
         self.assertEqual(found, [[-2], [-2], [0], [-3], [0], [0]])
 
-    def test_calls_of_every_number(self):
-        self.assertEqual(run([8, 0], [9, 0], [10, 0, 1], [11, 0], [12], [13, 0], [14, 0], begin()), [[-2]] * 8)
 
 
 class Begin(unittest.TestCase):
@@ -72,11 +80,64 @@ class Begin(unittest.TestCase):
 
 
 class NoSession(unittest.TestCase):
-    def test_each_deed_and_undo(self):
+    def test_never_opened(self):
         for session in NO_SESSIONS:
-            for call in each_deed(session) + [undo(session, 0)]:
+            for call in each_in_session(session):
                 with self.subTest(call=call):
-                    self.assertEqual(answered(call, put(0, "{a:1}")), [[-3], [0]])
+                    self.assertEqual(answered(call, put(0, "{a:1}"), why(0)), [[-3], [0], [1, 1, 1]])
+
+    def test_closed_or_committed(self):
+        for end in [close(0), commit(0, LOOSE), commit(0, STRICT)]:
+            for call in each_in_session(0):
+                with self.subTest(end=end, call=call):
+                    found = answered_behind(START + [put(0, "{a:1}"), end], call, begin(), put(0, "{a:1}"), why(0))
+                    self.assertEqual(found, [[-3], [0], [1], [1, 1, 1]])
+
+    def test_closed_or_committed_while_others_are_open(self):
+        for end in [close(1), commit(1, LOOSE), commit(1, STRICT)]:
+            for call in each_in_session(1):
+                with self.subTest(end=end, call=call):
+                    found = answered_behind(START + [begin(), begin(), end], call, look(0, 0), look(2, 0), begin(), begin())
+                    self.assertEqual(found, [[-3], [0], [0], [1], [3]])
+
+    def test_of_an_earlier_schema(self):
+        for call in each_in_session(0):
+            with self.subTest(call=call):
+                found = answered_behind(table_with("{a:1}") + [begin(), look(0, 0), schema("{1a!i8}")], call, rows(), then(1))
+                self.assertEqual(found, [[-3], [0], [-4]])
+
+
+class SchemaAnew(unittest.TestCase):
+    FULL = table_with("{a:1}", "{a:5}") + [begin(), begin(), put(0, "{a:2}"), look(1, 0), begin(), commit(2, LOOSE)]
+
+    def test_no_rows_no_commits_no_sessions(self):
+        found = answered_behind(
+            self.FULL + [schema("{1b!i8}")], rows(), row(0), then(0), then(1), look(0, 0), why(1), commit(0, STRICT), close(1),
+            begin(), ask(0, "T"), put(0, "{b:1}"), put(0, "{a:1}"), why(0), commit(0, STRICT), rows(), row(0), then(1), then(2),
+        )
+        self.assertEqual(
+            found,
+            [[0], [-4], [0], [-4], [-3], [-3], [-3], [-3], [0], [0], [0], [-1], [1, 1, 2], [1], [1, 0], seen("{b:1}")]
+            + [[1, 0], [-4]],
+        )
+
+    def test_the_same_schema_too(self):
+        found = answered_behind(self.FULL + [schema("{1a!i8}")], rows(), row(0), then(0), then(1), begin(), look(0, 0), put(0, "{a:1}"))
+        self.assertEqual(found, [[0], [-4], [0], [-4], [0], [0], [0]])
+
+    def test_a_refused_one_leaves_all_as_it_was(self):
+        calls = [
+            rows(), row(0), row(1), then(0), then(1), then(2), then(3), look(0, 2), why(0), why(1), again(1), commit(0, STRICT),
+            rows(), begin(), put(0, "{a:3}"),
+        ]
+        expected = answered_behind(self.FULL, *calls)
+        self.assertEqual(answered_behind(self.FULL, schema("{1a!i8"), *calls), [[-1]] + expected)
+        self.assertEqual(expected[11:], [[3], [3, 0, 1, 2], [0], [3]])
+
+    def test_sixty_commits_may_come_anew(self):
+        start = START + [commit(0, STRICT)] + [begin(), commit(0, STRICT)] * 59 + [begin()]
+        found = answered_behind(start, commit(0, STRICT), schema("{1a!i8}"), begin(), commit(0, STRICT))
+        self.assertEqual(found, [[-7], [0], [0], [1]])
 
 
 class Look(unittest.TestCase):
