@@ -123,6 +123,11 @@ def table_with(*texts):
     return [schema("{1a!i8}"), begin()] + [put(0, text) for text in texts] + [commit(0, STRICT)]
 
 
+def by_another(*deeds):
+    """Another session, number 1 while session 0 alone is open, that does these deeds and is committed."""
+    return [begin()] + list(deeds) + [commit(1, LOOSE)]
+
+
 def answered_behind(start, *calls):
     """The answers to the calls alone that come behind these first ones, none of which may be refused."""
     found = run(*start, *calls)

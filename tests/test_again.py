@@ -3,16 +3,11 @@
 import unittest
 
 from tests.helper import (
-    LOOSE, STRICT, again, answered_behind, ask, begin, commit, drop, look, put, replace, row, rows, run, schema, seen,
+    LOOSE, STRICT, again, answered_behind, ask, begin, by_another, commit, drop, look, put, replace, row, rows, run, schema, seen,
     table_with, undo, why,
 )
 
 THREE = table_with("{a:1}", "{a:5}", "{a:7}")
-
-
-def by_another(*deeds):
-    """Another session, number 1 while session 0 alone is open, that does these deeds and is committed."""
-    return [begin()] + list(deeds) + [commit(1, LOOSE)]
 
 
 def behind(deeds, others, *calls):

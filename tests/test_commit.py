@@ -3,18 +3,13 @@
 import unittest
 
 from tests.helper import (
-    GREATEST, LEAST, LOOSE, STRICT, again, answered_behind, ask, begin, close, commit, drop, look, put, replace, row, rows,
-    run, schema, seen, table_with, then, undo, why,
+    GREATEST, LEAST, LOOSE, STRICT, again, answered_behind, ask, begin, by_another, close, commit, drop, look, put, replace,
+    row, rows, run, schema, seen, table_with, then, undo, why,
 )
 
 EMPTY = [schema("{1a!i8}")]
 THREE = table_with("{a:1}", "{a:5}", "{a:7}")
 MODES = [LOOSE, STRICT]
-
-
-def by_another(*deeds):
-    """Another session, number 1 while session 0 alone is open, that does these deeds and is committed."""
-    return [begin()] + list(deeds) + [commit(1, LOOSE)]
 
 
 def behind(deeds, others, *calls):
